@@ -1,0 +1,1 @@
+"""Isotonic regression: the nondecreasing sequence closest to weighted measurements."""

@@ -1,0 +1,98 @@
+"""Weighted isotonic regression by pooling adjacent violators.
+
+A measurement is handled as a pair (value, weight), a block as a triple
+(weighted sum of its values, sum of its weights, size), and a rational
+number as a pair (numerator, denominator) in lowest terms.
+"""
+
+OUTSIDE_LIMITS = -22
+
+MOST_MEASUREMENTS = 10
+LARGEST_VALUE = 999
+SMALLEST_WEIGHT = 1
+LARGEST_WEIGHT = 9
+
+
+def isotonic_fit(measurements):
+    """Answer count, the fit of each measurement and the squared error of the fit."""
+    if not measurements_within_limits(measurements):
+        return [OUTSIDE_LIMITS]
+    points = value_weight_pairs(measurements)
+    fit = fit_of_blocks(pool_violators(points))
+    answer = [len(points)]
+    for mean in fit:
+        answer.extend(mean)
+    answer.extend(squared_error_of_fit(fit, points))
+    return answer
+
+
+def measurements_within_limits(measurements):
+    if len(measurements) % 2 != 0:
+        return False
+    if not 1 <= len(measurements) // 2 <= MOST_MEASUREMENTS:
+        return False
+    for value, weight in value_weight_pairs(measurements):
+        if not 0 <= value <= LARGEST_VALUE:
+            return False
+        if not SMALLEST_WEIGHT <= weight <= LARGEST_WEIGHT:
+            return False
+    return True
+
+
+def value_weight_pairs(measurements):
+    return [(measurements[k], measurements[k + 1]) for k in range(0, len(measurements), 2)]
+
+
+def pool_violators(points):
+    pooled = []
+    for value, weight in points:
+        last = (weight * value, weight, 1)
+        while len(pooled) > 0 and mean_is_at_most(last, pooled[-1]):
+            last = merge_blocks(pooled.pop(), last)
+        pooled.append(last)
+    return pooled
+
+
+def mean_is_at_most(block, other):
+    # The weights are above 0, so multiplying crosswise keeps the order and needs no division.
+    return block[0] * other[1] <= other[0] * block[1]
+
+
+def merge_blocks(block, other):
+    return (block[0] + other[0], block[1] + other[1], block[2] + other[2])
+
+
+def fit_of_blocks(pooled):
+    fit = []
+    for weighted_sum, weight, size in pooled:
+        fit.extend([lowest_terms(weighted_sum, weight)] * size)
+    return fit
+
+
+def squared_error_of_fit(fit, points):
+    error = (0, 1)
+    for mean, point in zip(fit, points):
+        error = add_rationals(error, weighted_square(mean, point))
+    return error
+
+
+def weighted_square(mean, point):
+    difference = mean[0] - point[0] * mean[1]
+    return lowest_terms(point[1] * difference * difference, mean[1] * mean[1])
+
+
+def add_rationals(one, other):
+    return lowest_terms(one[0] * other[1] + other[0] * one[1], one[1] * other[1])
+
+
+def lowest_terms(numerator, denominator):
+    divisor = greatest_common_divisor(numerator, denominator)
+    return (numerator // divisor, denominator // divisor)
+
+
+def greatest_common_divisor(one, other):
+    while other > 0:
+        rest = one % other
+        one = other
+        other = rest
+    return one

@@ -1,0 +1,103 @@
+"""Measurements that several tests try, and what the document's words say of them.
+
+Nothing here draws on the program: what it answers is held against these.
+"""
+
+from fractions import Fraction
+from itertools import product
+
+TOO_LARGE = 4294967295
+
+
+class UntouchableList(list):
+    """A list that may be read but not changed, not for a while either."""
+
+    def refuse(self, *arguments, **keywords):
+        raise AssertionError("what was handed in is changed")
+
+    append = extend = insert = remove = pop = clear = sort = reverse = refuse
+    __setitem__ = __delitem__ = __iadd__ = __imul__ = refuse
+
+
+def pairs(measurements):
+    return list(zip(measurements[0::2], measurements[1::2], strict=True))
+
+
+def flat(points):
+    return [number for point in points for number in point]
+
+
+def of_weight(weight, values):
+    return flat([(value, weight) for value in values])
+
+
+def weighted_mean(points):
+    return Fraction(
+        sum(weight * value for value, weight in points),
+        sum(weight for value, weight in points),
+    )
+
+
+def squared_error(sequence, points):
+    return sum(
+        (weight * (element - value) ** 2 for element, (value, weight) in zip(sequence, points, strict=True)),
+        Fraction(0),
+    )
+
+
+def max_min_fit(points):
+    """The fits as requirement 2 words them."""
+    count = len(points)
+    return [
+        max(
+            min(weighted_mean(points[a:b + 1]) for b in range(i, count))
+            for a in range(i + 1)
+        )
+        for i in range(count)
+    ]
+
+
+def every_list(count, values, weights):
+    for points in product(product(values, weights), repeat=count):
+        yield flat(points)
+
+
+def scattered_lists(how_many, largest_value):
+    """Lists of 1 to 10 measurements, the same ones at each run."""
+    state = 20261
+    for number in range(how_many):
+        points = []
+        for _ in range(number % 10 + 1):
+            state = (state * 1103515245 + 12345) % 2 ** 31
+            value = (state >> 8) % (largest_value + 1)
+            state = (state * 1103515245 + 12345) % 2 ** 31
+            points.append((value, (state >> 8) % 9 + 1))
+        yield flat(points)
+
+
+def many_lists():
+    for count in (1, 2, 3):
+        yield from every_list(count, (0, 1, 2), (1, 2, 9))
+    yield from every_list(4, (0, 1, 3), (1, 3))
+    yield from every_list(6, (0, 1, 2), (1,))
+    yield from scattered_lists(200, 3)
+    yield from scattered_lists(200, 999)
+
+
+def lists_outside_limits():
+    """Pairs of what is wrong and a list that is outside the limits for that reason alone."""
+    yield "empty", []
+    for length in (1, 3, 7, 19, 21, 23):
+        yield f"{length} integers", [1] * length
+    yield "11 measurements", [1] * 22
+    yield "11 measurements that rise", flat([(value, 1) for value in range(11)])
+    for count in (1, 3, 10):
+        for place in sorted({0, count // 2, count - 1}):
+            for value in (1000, TOO_LARGE):
+                yield f"value {value} at {place} of {count}", with_number([5, 2] * count, 2 * place, value)
+            for weight in (0, 10, TOO_LARGE):
+                yield f"weight {weight} at {place} of {count}", with_number([5, 2] * count, 2 * place + 1, weight)
+
+
+def with_number(numbers, place, number):
+    return numbers[:place] + [number] + numbers[place + 1:]
