@@ -26,6 +26,19 @@ def isotonic_fit(measurements):
     return answer
 
 
+def blocks(measurements):
+    """Answer the number of blocks, the size of each one and the number of descents."""
+    if not measurements_within_limits(measurements):
+        return [OUTSIDE_LIMITS]
+    points = value_weight_pairs(measurements)
+    pooled = pool_violators(points)
+    answer = [len(pooled)]
+    for weighted_sum, weight, size in pooled:
+        answer.append(size)
+    answer.append(count_descents(points))
+    return answer
+
+
 def measurements_within_limits(measurements):
     if len(measurements) % 2 != 0:
         return False
@@ -60,6 +73,14 @@ def mean_is_at_most(block, other):
 
 def merge_blocks(block, other):
     return (block[0] + other[0], block[1] + other[1], block[2] + other[2])
+
+
+def count_descents(points):
+    descents = 0
+    for k in range(1, len(points)):
+        if points[k][0] < points[k - 1][0]:
+            descents = descents + 1
+    return descents
 
 
 def fit_of_blocks(pooled):

@@ -1,4 +1,4 @@
-"""Measurements that several tests try, and what the document's words say of them.
+"""What several tests share: measurements to try, and what the document's words say of them.
 
 Nothing here draws on the program: what it answers is held against these.
 """
@@ -101,3 +101,30 @@ def lists_outside_limits():
 
 def with_number(numbers, place, number):
     return numbers[:place] + [number] + numbers[place + 1:]
+
+
+def lists_within_and_outside_limits():
+    return [*scattered_lists(40, 9), *(wrong for what, wrong in lists_outside_limits())]
+
+
+def check_refusals(case, call):
+    for what, measurements in lists_outside_limits():
+        with case.subTest(what):
+            case.assertEqual(call(measurements), [-22])
+
+
+def check_left_as_it_was(case, call):
+    for measurements in lists_within_and_outside_limits():
+        handed_in = UntouchableList(measurements)
+        call(handed_in)
+        case.assertEqual(handed_in, measurements)
+
+
+def check_second_call(case, call):
+    lists = lists_within_and_outside_limits()
+    first_answers = [call(measurements) for measurements in lists]
+    kept = [list(answer) for answer in first_answers]
+    # An answer that is changed by the caller must not show in a later one.
+    for answer in first_answers:
+        answer.clear()
+    case.assertEqual([call(measurements) for measurements in lists], kept)

@@ -5,10 +5,11 @@ from math import gcd
 
 from risingfits.regression import isotonic_fit
 from tests.samples import (
-    UntouchableList,
+    check_left_as_it_was,
+    check_refusals,
+    check_second_call,
     every_list,
     flat,
-    lists_outside_limits,
     many_lists,
     max_min_fit,
     of_weight,
@@ -130,9 +131,7 @@ class Edges(unittest.TestCase):
 
 class WrongInputs(unittest.TestCase):
     def test_outside_limits(self):
-        for what, measurements in lists_outside_limits():
-            with self.subTest(what):
-                self.assertEqual(isotonic_fit(measurements), [-22])
+        check_refusals(self, isotonic_fit)
 
 
 class Requirements(unittest.TestCase):
@@ -184,19 +183,10 @@ class Requirements(unittest.TestCase):
 
 class Purity(unittest.TestCase):
     def test_what_was_handed_in_stays_as_it_was(self):
-        lists = [*scattered_lists(40, 9), *(wrong for what, wrong in lists_outside_limits())]
-        for measurements in lists:
-            handed_in = UntouchableList(measurements)
-            isotonic_fit(handed_in)
-            self.assertEqual(handed_in, measurements)
+        check_left_as_it_was(self, isotonic_fit)
 
     def test_a_second_call_answers_as_the_first(self):
-        lists = [*scattered_lists(40, 9), *(wrong for what, wrong in lists_outside_limits())]
-        first_answers = [isotonic_fit(measurements) for measurements in lists]
-        kept = [list(answer) for answer in first_answers]
-        for answer in first_answers:
-            answer.clear()
-        self.assertEqual([isotonic_fit(measurements) for measurements in lists], kept)
+        check_second_call(self, isotonic_fit)
 
 
 if __name__ == "__main__":
