@@ -11,6 +11,8 @@ MOST_MEASUREMENTS = 10
 LARGEST_VALUE = 999
 SMALLEST_WEIGHT = 1
 LARGEST_WEIGHT = 9
+LARGEST_DEN = 99
+LARGEST_ELEMENT = 99999
 
 
 def isotonic_fit(measurements):
@@ -22,7 +24,7 @@ def isotonic_fit(measurements):
     answer = [len(points)]
     for mean in fit:
         answer.extend(mean)
-    answer.extend(squared_error_of_fit(fit, points))
+    answer.extend(error_of_sequence(fit, points))
     return answer
 
 
@@ -35,7 +37,21 @@ def blocks(measurements):
     answer = [len(pooled)]
     for weighted_sum, weight, size in pooled:
         answer.append(size)
-    answer.append(count_descents(points))
+    answer.append(count_descents([value for value, weight in points]))
+    return answer
+
+
+def squared_error(den, measurements, values):
+    """Answer 1 if no element values[i] / den is less than the one before, else 0, and the squared error."""
+    if not measurements_within_limits(measurements):
+        return [OUTSIDE_LIMITS]
+    points = value_weight_pairs(measurements)
+    if not (1 <= den <= LARGEST_DEN and values_within_limits(values, len(points))):
+        return [OUTSIDE_LIMITS]
+    sequence = [lowest_terms(numerator, den) for numerator in values]
+    # With one denominator for all, the numerators alone tell which element is less.
+    answer = [1 if count_descents(values) == 0 else 0]
+    answer.extend(error_of_sequence(sequence, points))
     return answer
 
 
@@ -48,6 +64,15 @@ def measurements_within_limits(measurements):
         if not 0 <= value <= LARGEST_VALUE:
             return False
         if not SMALLEST_WEIGHT <= weight <= LARGEST_WEIGHT:
+            return False
+    return True
+
+
+def values_within_limits(values, count):
+    if len(values) != count:
+        return False
+    for numerator in values:
+        if not 0 <= numerator <= LARGEST_ELEMENT:
             return False
     return True
 
@@ -75,10 +100,10 @@ def merge_blocks(block, other):
     return (block[0] + other[0], block[1] + other[1], block[2] + other[2])
 
 
-def count_descents(points):
+def count_descents(values):
     descents = 0
-    for k in range(1, len(points)):
-        if points[k][0] < points[k - 1][0]:
+    for k in range(1, len(values)):
+        if values[k] < values[k - 1]:
             descents = descents + 1
     return descents
 
@@ -90,16 +115,16 @@ def fit_of_blocks(pooled):
     return fit
 
 
-def squared_error_of_fit(fit, points):
+def error_of_sequence(sequence, points):
     error = (0, 1)
-    for mean, point in zip(fit, points):
-        error = add_rationals(error, weighted_square(mean, point))
+    for element, point in zip(sequence, points):
+        error = add_rationals(error, weighted_square(element, point))
     return error
 
 
-def weighted_square(mean, point):
-    difference = mean[0] - point[0] * mean[1]
-    return lowest_terms(point[1] * difference * difference, mean[1] * mean[1])
+def weighted_square(element, point):
+    difference = element[0] - point[0] * element[1]
+    return lowest_terms(point[1] * difference * difference, element[1] * element[1])
 
 
 def add_rationals(one, other):

@@ -38,7 +38,15 @@ def weighted_mean(points):
     )
 
 
-def squared_error(sequence, points):
+def rationals(numbers):
+    return [Fraction(numerator, denominator) for numerator, denominator in pairs(numbers)]
+
+
+def is_nondecreasing(sequence):
+    return all(one <= other for one, other in zip(sequence, sequence[1:]))
+
+
+def error_of(sequence, points):
     return sum(
         (weight * (element - value) ** 2 for element, (value, weight) in zip(sequence, points, strict=True)),
         Fraction(0),
@@ -62,17 +70,20 @@ def every_list(count, values, weights):
         yield flat(points)
 
 
+def scattered_numbers():
+    """Numbers from 0 to 8388607 without end, the same ones at each run."""
+    state = 20261
+    while True:
+        state = (state * 1103515245 + 12345) % 2 ** 31
+        yield state >> 8
+
+
 def scattered_lists(how_many, largest_value):
     """Lists of 1 to 10 measurements, the same ones at each run."""
-    state = 20261
+    numbers = scattered_numbers()
     for number in range(how_many):
-        points = []
-        for _ in range(number % 10 + 1):
-            state = (state * 1103515245 + 12345) % 2 ** 31
-            value = (state >> 8) % (largest_value + 1)
-            state = (state * 1103515245 + 12345) % 2 ** 31
-            points.append((value, (state >> 8) % 9 + 1))
-        yield flat(points)
+        count = number % 10 + 1
+        yield flat([(next(numbers) % (largest_value + 1), next(numbers) % 9 + 1) for _ in range(count)])
 
 
 def many_lists():

@@ -8,30 +8,24 @@ from tests.samples import (
     check_left_as_it_was,
     check_refusals,
     check_second_call,
+    error_of,
     every_list,
     flat,
+    is_nondecreasing,
     many_lists,
     max_min_fit,
     of_weight,
     pairs,
+    rationals,
     scattered_lists,
-    squared_error,
     weighted_mean,
     with_number,
 )
 
 
-def rationals(numbers):
-    return [Fraction(numerator, denominator) for numerator, denominator in pairs(numbers)]
-
-
 def fit_and_error(measurements):
     numbers = rationals(isotonic_fit(measurements)[1:])
     return numbers[:-1], numbers[-1]
-
-
-def is_nondecreasing(sequence):
-    return all(one <= other for one, other in zip(sequence, sequence[1:]))
 
 
 def cuts_into_blocks(count):
@@ -50,7 +44,7 @@ def smallest_error(points):
         for start, end in blocks:
             sequence += [weighted_mean(points[start:end])] * (end - start)
         if is_nondecreasing(sequence):
-            errors.append(squared_error(sequence, points))
+            errors.append(error_of(sequence, points))
     return min(errors)
 
 
@@ -138,7 +132,7 @@ class Requirements(unittest.TestCase):
     def test_error_is_that_of_the_fit(self):
         for measurements in many_lists():
             fit, error = fit_and_error(measurements)
-            self.assertEqual(error, squared_error(fit, pairs(measurements)), measurements)
+            self.assertEqual(error, error_of(fit, pairs(measurements)), measurements)
 
     def test_optimality_is_nondecreasing(self):
         for measurements in many_lists():
@@ -155,7 +149,7 @@ class Requirements(unittest.TestCase):
             error = fit_and_error(measurements)[1]
             points = pairs(measurements)
             for sequence in combinations_with_replacement(grid, 3):
-                self.assertLessEqual(error, squared_error(sequence, points), measurements)
+                self.assertLessEqual(error, error_of(sequence, points), measurements)
 
     def test_max_min_formula(self):
         for measurements in many_lists():
