@@ -5,6 +5,7 @@ A measurement is handled as a pair (value, weight), a block as a triple
 number as a pair (numerator, denominator) in lowest terms.
 """
 
+NO_SUCH_MEASUREMENT = -2
 OUTSIDE_LIMITS = -22
 
 MOST_MEASUREMENTS = 10
@@ -21,9 +22,7 @@ def isotonic_fit(measurements):
         return [OUTSIDE_LIMITS]
     points = value_weight_pairs(measurements)
     fit = fit_of_blocks(pool_violators(points))
-    answer = [len(points)]
-    for mean in fit:
-        answer.extend(mean)
+    answer = count_and_fit(fit)
     answer.extend(error_of_sequence(fit, points))
     return answer
 
@@ -53,6 +52,20 @@ def squared_error(den, measurements, values):
     answer = [1 if count_descents(values) == 0 else 0]
     answer.extend(error_of_sequence(sequence, points))
     return answer
+
+
+def fit_if_value(index, value, measurements):
+    """Answer count and the fit of each measurement if the one at index had the given value."""
+    if not measurements_within_limits(measurements):
+        return [OUTSIDE_LIMITS]
+    points = value_weight_pairs(measurements)
+    if not 0 <= index < len(points):
+        return [NO_SUCH_MEASUREMENT]
+    if not 0 <= value <= LARGEST_VALUE:
+        return [OUTSIDE_LIMITS]
+    # The pairs are a copy, so what was handed in stays as it was.
+    points[index] = (value, points[index][1])
+    return count_and_fit(fit_of_blocks(pool_violators(points)))
 
 
 def measurements_within_limits(measurements):
@@ -113,6 +126,13 @@ def fit_of_blocks(pooled):
     for weighted_sum, weight, size in pooled:
         fit.extend([lowest_terms(weighted_sum, weight)] * size)
     return fit
+
+
+def count_and_fit(fit):
+    answer = [len(fit)]
+    for mean in fit:
+        answer.extend(mean)
+    return answer
 
 
 def error_of_sequence(sequence, points):
