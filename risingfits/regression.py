@@ -7,6 +7,7 @@ number as a pair (numerator, denominator) in lowest terms.
 
 NO_SUCH_MEASUREMENT = -2
 OUTSIDE_LIMITS = -22
+VALUE_NOT_REACHED = -33
 
 MOST_MEASUREMENTS = 10
 LARGEST_VALUE = 999
@@ -66,6 +67,18 @@ def fit_if_value(index, value, measurements):
     # The pairs are a copy, so what was handed in stays as it was.
     points[index] = (value, points[index][1])
     return count_and_fit(fit_of_blocks(pool_violators(points)))
+
+
+def first_reaching(value, measurements):
+    """Answer the index of the first measurement whose fit is at least the value."""
+    if not measurements_within_limits(measurements):
+        return [OUTSIDE_LIMITS]
+    fit = fit_of_blocks(pool_violators(value_weight_pairs(measurements)))
+    for index, mean in enumerate(fit):
+        # The denominator is above 0, so multiplying by it keeps the order and needs no division.
+        if mean[0] >= value * mean[1]:
+            return [index]
+    return [VALUE_NOT_REACHED]
 
 
 def measurements_within_limits(measurements):
