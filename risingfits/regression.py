@@ -81,6 +81,20 @@ def first_reaching(value, measurements):
     return [VALUE_NOT_REACHED]
 
 
+def range_mean(first, last, measurements):
+    """Answer 0 and the weighted mean of the measurements from first to last, both included."""
+    if not measurements_within_limits(measurements):
+        return [OUTSIDE_LIMITS]
+    points = value_weight_pairs(measurements)
+    if not (0 <= first < len(points) and 0 <= last < len(points)):
+        return [NO_SUCH_MEASUREMENT]
+    if last < first:
+        return [OUTSIDE_LIMITS]
+    answer = [0]
+    answer.extend(weighted_mean(points[first:last + 1]))
+    return answer
+
+
 def measurements_within_limits(measurements):
     if len(measurements) % 2 != 0:
         return False
@@ -139,6 +153,11 @@ def fit_of_blocks(pooled):
     for weighted_sum, weight, size in pooled:
         fit.extend([lowest_terms(weighted_sum, weight)] * size)
     return fit
+
+
+def weighted_mean(points):
+    weighted_sum = sum([weight * value for value, weight in points])
+    return lowest_terms(weighted_sum, sum([weight for value, weight in points]))
 
 
 def count_and_fit(fit):
